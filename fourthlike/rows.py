@@ -29,7 +29,7 @@ class Row:
         return isinstance(other, Row) and self.marks == other.marks and self.places == other.places
 
     def __str__(self):
-        return " ".join([str(self.marks), ":"] + [str(mark) for mark in self.places])
+        return " ".join([str(self.marks), ":", *[str(mark) for mark in self.places]])
 
     def renamed(self, order):
         """The row in which mark m has become order[m]."""

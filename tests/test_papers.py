@@ -15,6 +15,12 @@ KINDS = {
     "makers": [("Makers", "rows closed", False)],
     "powers": [("Whole", "number", False), ("NoWhole", "low", True)],
     "between": [("ByPower", "power", False), ("Between", "low", True)],
+    "numberrows": [("Uneven", "step", True)],
+    "layings": [("Pieces", "kinds fours", False), ("Unlaid", "places", True), ("Laid", "indexes", False),
+                ("NotLaid", "at", True)],
+    "fourthwords": [("NoWord", "spots", True)],
+    "patterns": [("Shared", "pattern mine its", False)],
+    "termfourths": [("Bearing", "p q mine its", False), ("NoTerm", "hole", True)],
 }
 CLASSES = [(getattr(import_module("fourthlike." + file), name), fields.split(), denies)
            for file, kinds in KINDS.items() for name, fields, denies in kinds]
