@@ -4,7 +4,7 @@ from fourthlike.between import Between, ByPower
 from fourthlike.checks import is_just, is_within
 from fourthlike.numberneeds import LEAST_POWER, MOST_NUMBER, MOST_POWER, MOST_SMALL
 from fourthlike.numberneeds import need_growing, need_numbers, need_power
-from fourthlike.numberrows import Uneven, need_growing_row, power_of_row
+from fourthlike.numberrows import power_of_row
 from fourthlike.powers import NoWhole, Whole
 from fourthlike.powersums import fourth_quotient, is_by_power, side_of, whole_sum
 
@@ -46,8 +46,5 @@ def shows_power(a, b, c, d, value):
 
 def shows_power_of_row(numbers, value):
     """Whether value is the right ByPower or Uneven."""
-    need_growing_row(numbers)
     found = power_of_row(numbers)
-    if type(value) is not ByPower and type(value) is not Uneven:
-        return False
     return type(value) is type(found) and is_just(value.parts, found.parts)

@@ -29,8 +29,9 @@ class Choice:
         self.choices = [Choice(part, firsts) for part in term.parts]
         self.tails = tails_of(self.choices)
         self.ways = {lot: self.tails[0][lot] for lot in self.tails[0]}
+        # No term is an inner term of its own parts, so nothing in them gives way to these holes.
         for hole in self.holes:
-            self.ways[1 << hole] = self.ways.get(1 << hole, 0) + 1
+            self.ways[1 << hole] = 1
 
     def trees_for(self, lot):
         """The trees that the choices make which put in just the holes of the lot."""

@@ -1,6 +1,7 @@
 """Whether papers on powers are right."""
 
 import itertools
+from unittest.mock import ANY
 
 from fourthlike.between import Between, ByPower, power_of
 from fourthlike.check_numbers import shows_fourth_by, shows_power, shows_power_of_row
@@ -10,7 +11,7 @@ from fourthlike.papers import Denial, Paper
 from fourthlike.powers import NoWhole, Whole, fourth_by
 from tests.helpers import NO_NUMBERS, Case
 
-ODD_PARTS = NO_NUMBERS + ("a", (), [0], 10 ** 40, -10 ** 40, Whole(1), 1.5, "0", "1")
+ODD_PARTS = NO_NUMBERS + ("a", (), [0], 10 ** 40, -10 ** 40, ANY, Whole(1), 1.5, "0", "1")
 PAPERS = (Whole, NoWhole, ByPower, Between, Uneven)
 
 

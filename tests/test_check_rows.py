@@ -1,6 +1,7 @@
 """Whether papers on rows are right."""
 
 import itertools
+from unittest.mock import ANY
 
 from fourthlike.check_rows import shows_closed, shows_fourth, shows_leak, shows_makers, shows_nearest
 from fourthlike.errors import BadRow, Misfit, TooMany
@@ -163,6 +164,8 @@ class CheckRowsTest(Case):
         found = self.shortly(fewest_makers, cube)
         self.assertEqual(len(found.rows), 4)
         self.assertTrue(self.shortly(shows_makers, cube, found))
+        flat = cube[:4]
+        self.is_right(False, shows_makers, cube, Makers(flat, closed_lot(flat)))
         five = sorted(list(found.rows) + [Row(2, [1, 1, 1])], key=lambda row: row.places)
         self.is_right(False, shows_makers, cube, Makers(five, closed_lot(five)))
 
@@ -184,6 +187,21 @@ class CheckRowsTest(Case):
                 self.raised(TooMany("all", 27), call, [Row(2, [0] * 5)], value)
         self.raised(TooMany("rows", 8), shows_makers, every_row(3, 2), None)
         self.is_right(False, shows_closed, every_row(3, 3), None)
+
+    def test_parts_that_are_equal_to_anything(self):
+        end = Row(2, [1, 1])
+        for value in (Fourth(ANY), NoFourth(ANY)):
+            self.is_right(False, shows_fourth, *LOT, value)
+        self.is_right(False, shows_fourth, end, LOT[0], LOT[1], NoFourth(ANY))
+        for value in (Nearest(ANY, [[1], [1]]), Nearest(0, ANY), Nearest(0, [ANY, [1]]), Nearest(0, [[ANY], [1]])):
+            self.is_right(False, shows_nearest, *LOT, value)
+        for value in (Closed(ANY, ANY), Closed(LOT + [ANY], [None, None, None, (0, 1, 2)]), Closed(LOT + [end], ANY),
+                      Closed(LOT + [end], [None, None, None, ANY]), Closed(LOT + [end], [None, None, None, (0, 1, ANY)])):
+            self.is_right(False, shows_closed, LOT, value)
+        for value in (Leak(ANY, end), Leak((0, 1, 2), ANY), Leak((0, ANY, 2), end)):
+            self.is_right(False, shows_leak, LOT, value)
+        for value in (Makers(ANY, ANY), Makers(LOT, ANY), Makers([ANY] * 3, closed_lot(LOT))):
+            self.is_right(False, shows_makers, LOT, value)
 
     def test_short_answers(self):
         rows = every_row(3, 3)

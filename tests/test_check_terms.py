@@ -1,6 +1,7 @@
 """Whether papers on terms are right."""
 
 import itertools
+from unittest.mock import ANY
 
 from fourthlike.check_terms import shows_bearing, shows_no_term
 from fourthlike.errors import BadTerm, TooMany
@@ -47,6 +48,14 @@ class CheckTermsTest(Case):
         for bad in ([v, u], [u], [u, v, u], [], None, "uv", [u, "v"], [u, None], [x, y], u, 2, [[u], v], {0: u, 1: v}):
             self.is_right(False, shows_bearing, a, b, c, d, Bearing(p, q, [x, y], bad))
         good = Bearing(p, q, [x, y], [u, v])
+        for at in range(4):
+            for other in (read("z"), read("f ( x , x )"), read("g ( y , y )"), read("f ( u , u )"), read("g ( v , v )")):
+                four = [a, b, c, d]
+                four[at] = other
+                self.is_right(False, shows_bearing, *four, good)
+        for bad in (Bearing(ANY, q, [x, y], [u, v]), Bearing(p, ANY, [x, y], [u, v]), Bearing(p, q, ANY, [u, v]),
+                    Bearing(p, q, [x, y], ANY), Bearing(p, q, [ANY, y], [u, v]), Bearing(p, q, [x, y], [u, ANY]), ANY):
+            self.is_right(False, shows_bearing, a, b, c, d, bad)
         for at, four in enumerate(itertools.permutations((a, b, c, d))):
             self.is_right(at == 0, shows_bearing, *four, good)
         for bad in NO_PAPERS + (Paper("bearing", *good.parts), Denial("bearing", *good.parts), NoTerm(0), shared(a, c),
@@ -88,7 +97,7 @@ class CheckTermsTest(Case):
     def test_bent_no_terms(self):
         a, c = read("f ( x , y )"), read("f ( u , v )")
         for b, right in ((read("x"), [1]), (read("y"), [0]), (read("z"), [0, 1]), (read("g ( x , y )"), []), (a, [])):
-            for hole in (0, 1, 2, -1, -2, True, False, None, 0.0, 1.0, "0", [0], (1,), 10 ** 40, Term("x")):
+            for hole in (0, 1, 2, -1, -2, True, False, None, 0.0, 1.0, "0", [0], (1,), 10 ** 40, Term("x"), ANY):
                 wanted = isinstance(hole, int) and not isinstance(hole, bool) and hole in right
                 self.is_right(wanted, shows_no_term, a, b, c, NoTerm(hole))
             for bad in NO_PAPERS + (Paper("noterm", 0), Denial("noterm", 1), Bearing(Pattern(0), Pattern(0), [b], [b])):

@@ -1,6 +1,7 @@
 """Whether papers on words are right."""
 
 import itertools
+from unittest.mock import ANY
 
 from fourthlike.check_words import shows_laid, shows_no_word, shows_pieces
 from fourthlike.errors import BadWord
@@ -48,6 +49,12 @@ class CheckWordsTest(Case):
         for bad in (fours[:1], fours + [["", "", "", ""]], fours[::-1], [fours[0], ["", "ed", ""]], [fours[0], "eded"],
                     [fours[0], ["", "ed", "", "ed", ""]], [fours[0], None], None, 4, "ab", [], [fours[0][:3], fours[1]],
                     [fours[0], fours[0]], {0: fours}):
+            self.is_right(False, shows_pieces, *WALK, Pieces(kinds, bad))
+        for bad in (None, 1, True, ["walk"], b"walk", "WALK", ANY):
+            self.is_right(False, shows_pieces, *WALK, Pieces(kinds, [[bad] * 4, fours[1]]))
+            self.is_right(False, shows_pieces, *WALK, Pieces([bad, "change"], fours))
+            self.is_right(False, shows_pieces, *WALK, Pieces(kinds, [bad, fours[1]]))
+            self.is_right(False, shows_pieces, *WALK, Pieces(bad, fours))
             self.is_right(False, shows_pieces, *WALK, Pieces(kinds, bad))
         self.is_right(False, shows_pieces, "walk", "walked", "talk", "talker", Pieces(kinds, fours))
         self.is_right(False, shows_pieces, "walked", "walk", "talked", "talk", Pieces(kinds, fours))
@@ -114,6 +121,11 @@ class CheckWordsTest(Case):
                     self.is_right(False, call, *words, made([bad if place == first else place for place in places]))
             for bad in NO_PAPERS + (Denial(found.word, places), Pieces((), ()), NotLaid(0), Laid(())):
                 self.is_right(False, call, *words, bad)
+        for bad in ((-1, 0, 0, 0), (2, 0, 0, 0), (True, 0, 0, 0), (0, 0, 0), (0, 0, 0, 0, 0), ANY, (ANY, 0, 0, 0)):
+            self.is_right(False, shows_pieces, "a", "b", "c", "d", Unlaid([(0, 0, 0, 0), bad]))
+        for bad in ((-1, 0, 0), (2, 0, 0), (True, 0, 0), (0, 0), (0, 0, 0, 0), ANY, (ANY, 0, 0)):
+            self.is_right(False, shows_no_word, "a", "", "", NoWord([(0, 0, 0), bad]))
+        self.is_right(True, shows_pieces, "a", "b", "c", "d", Unlaid([(0, 0, 0, 0), (1, 0, 0, 0)]))
         self.is_right(False, shows_pieces, "", "", "", "", Unlaid([(0, 0, 0, 0)]))
         self.is_right(False, shows_no_word, "", "", "", NoWord([(0, 0, 0)]))
         self.is_right(False, shows_pieces, "a", "b", "c", "d", NoWord([(0, 0, 0, 0)]))
@@ -138,6 +150,8 @@ class CheckWordsTest(Case):
         for bad in NO_PAPERS + (Paper("laid", (1, 3)), NotLaid(0), NotLaid(1), NotLaid(2), NotLaid(None), Pieces((), ())):
             self.is_right(False, shows_laid, "ba", "abba", bad)
         self.is_right(True, shows_laid, "aab", "ab", NotLaid(1))
+        for bad in NO_PAPERS + (Denial("notlaid", 1), Unlaid([(0, 0)]), NotLaid(ANY), Laid(ANY), Laid([0, ANY, 1])):
+            self.is_right(False, shows_laid, "aab", "ab", bad)
         for bad in (0, 2, 3, True, None, 1.0, "1", [1], (1,), -2, -1):
             self.is_right(False, shows_laid, "aab", "ab", NotLaid(bad))
         self.is_right(True, shows_laid, "", "", Laid([]))

@@ -75,6 +75,10 @@ class FourthWordsTest(Case):
         self.assertEqual(words, sorted(set(words)))
 
     def test_near_four_hundred(self):
+        self.same(many_fourths("cf", "facaee", "dfecfd"), 400)
+        self.assertEqual(len(fourths_of_words("cf", "facaee", "dfecfd")), 400)
+        self.same(many_fourths("dc", "dbddfc", "eabdag"), 401)
+        self.raised(TooMany("fourths", 400), fourths_of_words, "dc", "dbddfc", "eabdag")
         counts = {}
         for b, c in itertools.product(("abcdef", "abcdea", "abcabc", "aabbcc"), ("ghijkl", "abcdef", "fedcba", "abcghi")):
             counts[many_fourths("", b, c)] = (b, c)

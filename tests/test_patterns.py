@@ -86,6 +86,12 @@ class PatternsTest(Case):
             self.assertEqual(str(Pattern.of(term)), str(term))
             self.assertEqual(Pattern.read(str(term)), Pattern.of(term))
 
+    def test_texts_with_heads_that_end_like_holes(self):
+        for text in ("a0", "f0 ( a0 , #0 )", "f ( #0 , a1 , #1 )"):
+            self.assertEqual(str(Pattern.read(text)), text)
+        self.same(Pattern.read("a0").tree, ("a0",))
+        self.same(Pattern.read("f ( a0 )").holes, 0)
+
     def test_bent_texts(self):
         for text, item in [
                 ("", 0), ("#", 0), ("#1", 0), ("#00", 0), ("#01", 0), ("#-1", 0), ("#a", 0), ("# 0", 0), ("#24", 0), ("#0 ", 1),

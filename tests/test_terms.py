@@ -1,6 +1,7 @@
 """Terms."""
 
 import itertools
+import random
 
 from fourthlike.errors import BadTerm, BadText, TooMany
 from fourthlike.patterns import Pattern
@@ -30,6 +31,22 @@ def chain(many, end=None):
     for _ in range(many - 1):
         term = Term("f", [term])
     return term
+
+
+def some_tree(chance, many):
+    """A tree of so many heads, by chance."""
+    parts = []
+    left = many - 1
+    while left > 0:
+        size = left if len(parts) == 2 else chance.randint(1, left)
+        parts.append(some_tree(chance, size))
+        left -= size
+    return (chance.choice("fgh"), *parts)
+
+
+def tree_text(tree):
+    parts = " , ".join(tree_text(part) for part in tree[1:])
+    return tree[0] + (" ( " + parts + " )" if parts else "")
 
 
 def slow_text(term):
@@ -151,6 +168,16 @@ class TermsTest(Case):
         self.raised(BadText(0, end + 1), Term.read, " ".join(more))
         self.raised(BadText(0, end), Term.read, " ".join(items[:end] + ["b"]))
         self.raised(BadText(0, 48), Term.read, "f ( " * 25000 + "a")
+
+    def test_texts_of_24_heads_and_of_25(self):
+        chance = random.Random(4)
+        for _ in range(200):
+            text = tree_text(some_tree(chance, 24))
+            self.assertEqual(str(Term.read(text)), text)
+            self.assertEqual(Term.read(text).size, 24)
+            text = tree_text(some_tree(chance, 25))
+            heads = [at for at, item in enumerate(text.split(" ")) if item not in ("(", ",", ")")]
+            self.raised(BadText(0, heads[24]), Term.read, text)
 
     def test_what_is_no_string(self):
         for value in ODD_VALUES + (1, ["a"], ("a",), Term("a")):
