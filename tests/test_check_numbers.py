@@ -26,7 +26,8 @@ class CheckNumbersTest(Case):
                 if part is not None:
                     self.is_right(False, call, *arguments, made(part))
             self.is_right(made(None) == right, call, *arguments, made(None))
-        for value in NO_NUMBERS + (right.parts, right.parts[0], right.word, type(right), Paper(right.word, *right.parts),
+        for value in NO_NUMBERS + (right.parts, right.parts[0], right.word, type(right),
+                                   Paper(right.word, *right.parts),
                                    Denial(right.word, *right.parts)):
             self.is_right(False, call, *arguments, value)
 

@@ -34,8 +34,10 @@ class CheckRowsTest(Case):
     def test_bent_fourths(self):
         a, b, c = Row(2, [0, 1]), Row(2, [1, 1]), Row(2, [0, 0])
         self.is_right(True, shows_fourth, a, b, c, Fourth(Row(2, [1, 0])))
-        for bad in (Fourth(Row(3, [1, 0])), Fourth(Row(2, [1])), Fourth(Row(2, [1, 0, 0])), Fourth((1, 0)), Fourth(None),
-                    Fourth([Row(2, [1, 0])]), Fourth("2 : 1 0"), Leak((0, 1, 2), Row(2, [1, 0])), Nearest(0, [[1], [0]]),
+        for bad in (Fourth(Row(3, [1, 0])), Fourth(Row(2, [1])), Fourth(Row(2, [1, 0, 0])), Fourth((1, 0)),
+                    Fourth(None),
+                    Fourth([Row(2, [1, 0])]), Fourth("2 : 1 0"), Leak((0, 1, 2), Row(2, [1, 0])),
+                    Nearest(0, [[1], [0]]),
                     Fourth(Fourth(Row(2, [1, 0])))) + NO_PAPERS:
             self.is_right(False, shows_fourth, a, b, c, bad)
         a, b, c = Row(4, [3, 1, 3]), Row(4, [0, 1, 2]), Row(4, [1, 1, 0])
@@ -94,14 +96,16 @@ class CheckRowsTest(Case):
         good = [None, None, None, (0, 1, 2)]
         self.is_right(True, shows_closed, LOT, Closed(LOT + [end], good))
         self.is_right(True, shows_closed, LOT, Closed(tuple(LOT) + (end,), good[:3] + [[0, 2, 1]]))
-        for reason in (None, (0, 1, 3), (3, 3, 3), (0, 3, 3), (0, True, 2), (False, 1, 2), (0, 1), (0, 1, 2, 0), (1, 0, 2),
+        for reason in (None, (0, 1, 3), (3, 3, 3), (0, 3, 3), (0, True, 2), (False, 1, 2), (0, 1), (0, 1, 2, 0),
+                       (1, 0, 2),
                        (0, 1, -2), (-4, 1, 2), (0, 1, 2.0), "012", 0, (0, 1, 4), (0, 1, None), {0: 1}, ((0,), 1, 2),
                        (0, 1, 10 ** 30)):
             self.is_right(False, shows_closed, LOT, Closed(LOT + [end], good[:3] + [reason]))
         for reasons in (None, [], good[:3], good + [None], good[::-1], [None] * 4, [(0, 0, 0)] * 4, "abcd", 4,
                         [(0, 0, 0), None, None, (0, 1, 2)], [None, None, False, (0, 1, 2)], {0: None}):
             self.is_right(False, shows_closed, LOT, Closed(LOT + [end], reasons))
-        for rows in (None, [], LOT, LOT + [Row(3, [1, 1])], LOT + [Row(2, [1])], LOT + [(1, 1)], LOT + [None], 4, "abcd",
+        for rows in (None, [], LOT, LOT + [Row(3, [1, 1])], LOT + [Row(2, [1])], LOT + [(1, 1)], LOT + [None], 4,
+                     "abcd",
                      [end] + LOT, [LOT[1], LOT[0], LOT[2], end], LOT + [LOT[0]], LOT + [[end]], end, LOT + [end, end]):
             self.is_right(False, shows_closed, LOT, Closed(rows, good))
         for bad in NO_PAPERS + (Leak((0, 1, 2), end), Makers(LOT, closed_lot(LOT)), closed_lot(LOT[:2]),
@@ -121,7 +125,8 @@ class CheckRowsTest(Case):
             self.is_right(wanted, shows_leak, rows, Leak(numbers, end))
             self.is_right(False, shows_leak, rows + [end], Leak(numbers, end))
             self.is_right(False, shows_leak, rows, Leak(numbers, LOT[1]))
-        for numbers in (None, (), (0, 1), (0, True, 3), (False, 1, 3), (0, 1, 3, 0), "013", (0, 1.0, 3), ((0,), 1, 3), 0,
+        for numbers in (None, (), (0, 1), (0, True, 3), (False, 1, 3), (0, 1, 3, 0), "013", (0, 1.0, 3), ((0,), 1, 3),
+                        0,
                         (0, 1, 10 ** 30)):
             self.is_right(False, shows_leak, rows, Leak(numbers, end))
         for row in (None, (1, 1), Row(3, [1, 1]), Row(2, [1]), Row(2, [1, 1, 1]), [end], 0):
@@ -196,7 +201,8 @@ class CheckRowsTest(Case):
         for value in (Nearest(ANY, [[1], [1]]), Nearest(0, ANY), Nearest(0, [ANY, [1]]), Nearest(0, [[ANY], [1]])):
             self.is_right(False, shows_nearest, *LOT, value)
         for value in (Closed(ANY, ANY), Closed(LOT + [ANY], [None, None, None, (0, 1, 2)]), Closed(LOT + [end], ANY),
-                      Closed(LOT + [end], [None, None, None, ANY]), Closed(LOT + [end], [None, None, None, (0, 1, ANY)])):
+                      Closed(LOT + [end], [None, None, None, ANY]),
+                      Closed(LOT + [end], [None, None, None, (0, 1, ANY)])):
             self.is_right(False, shows_closed, LOT, value)
         for value in (Leak(ANY, end), Leak((0, 1, 2), ANY), Leak((0, ANY, 2), end)):
             self.is_right(False, shows_leak, LOT, value)

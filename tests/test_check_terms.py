@@ -36,20 +36,25 @@ class CheckTermsTest(Case):
         x, y, u, v = [read(text) for text in "xyuv"]
         p, q = Pattern(["f", 0, 1]), Pattern(["g", 1, 0])
         self.is_right(True, shows_bearing, a, b, c, d, Bearing(p, q, [x, y], [u, v]))
-        self.is_right(True, shows_bearing, a, b, c, d, Bearing(Pattern(["f", 1, 0]), Pattern(["g", 0, 1]), [y, x], [v, u]))
-        for bad in (Pattern(["f", 1, 0]), Pattern(["f", 0, 0]), Pattern(0), Pattern(["f", ["x"], 0]), Pattern.of(a), a, None,
+        self.is_right(True, shows_bearing, a, b, c, d, Bearing(Pattern(["f", 1, 0]), Pattern(["g", 0, 1]), [y, x],
+                                                               [v, u]))
+        for bad in (Pattern(["f", 1, 0]), Pattern(["f", 0, 0]), Pattern(0), Pattern(["f", ["x"], 0]), Pattern.of(a), a,
+                    None,
                     ("f", 0, 1), "f ( #0 , #1 )", 0, [p], Pattern(["f", 0, 1, 1]), Pattern(["f", 0, 1, 2]), q):
             self.is_right(False, shows_bearing, a, b, c, d, Bearing(bad, q, [x, y], [u, v]))
-        for bad in (Pattern(["g", 0, 1]), Pattern(["g", 0, 0]), Pattern(0), Pattern.of(b), b, None, ("g", 1, 0), p, [q], 1):
+        for bad in (Pattern(["g", 0, 1]), Pattern(["g", 0, 0]), Pattern(0), Pattern.of(b), b, None, ("g", 1, 0), p,
+                    [q], 1):
             self.is_right(False, shows_bearing, a, b, c, d, Bearing(p, bad, [x, y], [u, v]))
-        for bad in ([y, x], [x], [x, y, x], [], None, "xy", [x, "y"], [x, None], ["x", "y"], x, 2, [[x], y], {0: x, 1: y},
+        for bad in ([y, x], [x], [x, y, x], [], None, "xy", [x, "y"], [x, None], ["x", "y"], x, 2, [[x], y],
+                    {0: x, 1: y},
                     [Pattern(["x"]), y], [u, v], [x, x]):
             self.is_right(False, shows_bearing, a, b, c, d, Bearing(p, q, bad, [u, v]))
         for bad in ([v, u], [u], [u, v, u], [], None, "uv", [u, "v"], [u, None], [x, y], u, 2, [[u], v], {0: u, 1: v}):
             self.is_right(False, shows_bearing, a, b, c, d, Bearing(p, q, [x, y], bad))
         good = Bearing(p, q, [x, y], [u, v])
         for at in range(4):
-            for other in (read("z"), read("f ( x , x )"), read("g ( y , y )"), read("f ( u , u )"), read("g ( v , v )")):
+            for other in (read("z"), read("f ( x , x )"), read("g ( y , y )"), read("f ( u , u )"),
+                          read("g ( v , v )")):
                 four = [a, b, c, d]
                 four[at] = other
                 self.is_right(False, shows_bearing, *four, good)
@@ -73,13 +78,16 @@ class CheckTermsTest(Case):
         self.is_right(False, shows_bearing, a, b, a, a, none)
         self.is_right(False, shows_bearing, a, b, a, b, Bearing(Pattern(0), Pattern.of(b), [a], [a]))
         self.is_right(False, shows_bearing, a, b, a, b, Bearing(Pattern.of(a), Pattern(0), [b], [b]))
-        self.is_right(True, shows_bearing, a, b, a, b, Bearing(Pattern(["f", 0]), Pattern(["g", 0, ["b"]]), [read("a")], [read("a")]))
+        self.is_right(True, shows_bearing, a, b, a, b, Bearing(Pattern(["f", 0]), Pattern(["g", 0, ["b"]]),
+                                                               [read("a")], [read("a")]))
         long, other = chain(24), chain(24, Term("b"))
         deep = ["f", 0]
         for _ in range(22):
             deep = ["f", deep]
-        self.is_right(True, shows_bearing, long, long, other, other, Bearing(Pattern(deep), Pattern(deep), [read("a")], [read("b")]))
-        self.is_right(False, shows_bearing, long, long, other, other, Bearing(Pattern(deep), Pattern(deep), [long], [other]))
+        self.is_right(True, shows_bearing, long, long, other, other,
+                      Bearing(Pattern(deep), Pattern(deep), [read("a")], [read("b")]))
+        self.is_right(False, shows_bearing, long, long, other, other,
+                      Bearing(Pattern(deep), Pattern(deep), [long], [other]))
 
     def test_every_small_no_term(self):
         terms = terms_up_to(3, "abc", "f")

@@ -30,14 +30,16 @@ class CheckWordsTest(Case):
         self.is_right(True, shows_pieces, *WALK, Pieces(*zip(*more)))
         self.is_right(True, shows_pieces, "", "", "", "", Pieces([], []))
         self.is_right(True, shows_pieces, "", "", "", "", Pieces(["steady"], [["", "", "", ""]]))
-        self.is_right(True, shows_pieces, "a", "a", "b", "b", Pieces(["steady", "steady"], [["a", "a", "", ""], ["", "", "b", "b"]]))
+        self.is_right(True, shows_pieces, "a", "a", "b", "b",
+                      Pieces(["steady", "steady"], [["a", "a", "", ""], ["", "", "b", "b"]]))
 
     def test_bent_pieces(self):
         kinds = ["steady", "change"]
         fours = [["walk", "walk", "talk", "talk"], ["", "ed", "", "ed"]]
         self.is_right(True, shows_pieces, *WALK, Pieces(kinds, fours))
         self.is_right(True, shows_pieces, *WALK, Pieces(tuple(kinds), tuple(map(tuple, fours))))
-        for bad in (["change", "change"], ["steady", "steady"], kinds[::-1], kinds[:1], kinds + ["steady"], [], None, "ab",
+        for bad in (["change", "change"], ["steady", "steady"], kinds[::-1], kinds[:1], kinds + ["steady"], [], None,
+                    "ab",
                     ["both", "change"], [True, "change"], ["steady", None], ["steady", 1], ["Steady", "change"],
                     [["steady"], "change"], "steady", 2, ["steady", b"change"]):
             self.is_right(False, shows_pieces, *WALK, Pieces(bad, fours))
@@ -58,7 +60,8 @@ class CheckWordsTest(Case):
             self.is_right(False, shows_pieces, *WALK, Pieces(kinds, bad))
         self.is_right(False, shows_pieces, "walk", "walked", "talk", "talker", Pieces(kinds, fours))
         self.is_right(False, shows_pieces, "walked", "walk", "talked", "talk", Pieces(kinds, fours))
-        for bad in NO_PAPERS + (Paper("pieces", kinds, fours), Unlaid([(0, 0, 0, 0)]), Laid(()), NotLaid(0), [kinds, fours]):
+        for bad in NO_PAPERS + (Paper("pieces", kinds, fours), Unlaid([(0, 0, 0, 0)]), Laid(()), NotLaid(0),
+                                [kinds, fours]):
             self.is_right(False, shows_pieces, *WALK, bad)
 
     def closed_lots(self, words, wanted):
@@ -79,7 +82,8 @@ class CheckWordsTest(Case):
                     if tuple(after) not in lot:
                         return False
             return True
-        for words in (("a", "a", "a", ""), ("a", "b", "", "a"), ("ab", "ab", "", ""), ("a", "", "a", ""), ("a", "a", "", "")):
+        for words in (("a", "a", "a", ""), ("a", "b", "", "a"), ("ab", "ab", "", ""), ("a", "", "a", ""),
+                      ("a", "a", "", "")):
             right = 0
             for lot, wanted in self.closed_lots(words, leads_only_within):
                 self.is_right(wanted, shows_pieces, *words, Unlaid(lot))
@@ -93,7 +97,8 @@ class CheckWordsTest(Case):
             after = [(i, j + 1, k)] * bool(b) + [(i, j, k + 1)] * bool(c)
             after += [(i + 1, j + 1, k)] * (bool(a) and a == b) + [(i + 1, j, k + 1)] * (bool(a) and a == c)
             return all(one in lot for one in after)
-        for words in (("a", "b", "a"), ("a", "b", ""), ("aa", "a", ""), ("ab", "b", "a"), ("", "a", "b"), ("a", "b", "c"), ("aa", "a", "b")):
+        for words in (("a", "b", "a"), ("a", "b", ""), ("aa", "a", ""), ("ab", "b", "a"), ("", "a", "b"),
+                      ("a", "b", "c"), ("aa", "a", "b")):
             right = 0
             for lot, wanted in self.closed_lots(words, leads_only_within):
                 self.is_right(wanted, shows_no_word, *words, NoWord(lot))
@@ -101,7 +106,8 @@ class CheckWordsTest(Case):
             self.assertEqual(right > 0, no_word(*words) is not None)
 
     def test_bent_closed_lots(self):
-        for call, words, made in ((shows_pieces, ("ab", "ba", "a", "b"), Unlaid), (shows_no_word, ("ab", "ba", "c"), NoWord)):
+        for call, words, made in ((shows_pieces, ("ab", "ba", "a", "b"), Unlaid),
+                                  (shows_no_word, ("ab", "ba", "c"), NoWord)):
             found = (pieces_of if made is Unlaid else no_word)(*words)
             places = list(found.parts[0])
             self.is_right(True, call, *words, found)
@@ -112,7 +118,8 @@ class CheckWordsTest(Case):
             first = (0,) * len(words)
             for bad in ((), None, first, "0000", 0, {first: True}, [first, None], [None]):
                 self.is_right(False, call, *words, made(bad))
-            for bad in ((0,) * (len(words) - 1), (0,) * (len(words) + 1), (False,) * len(words), (-1,) + first[1:], None, 0,
+            for bad in ((0,) * (len(words) - 1), (0,) * (len(words) + 1), (False,) * len(words), (-1,) + first[1:],
+                        None, 0,
                         (len(words[0]) + 1,) + first[1:], (True,) + first[1:], (0.0,) + first[1:], "0" * len(words),
                         (None,) + first[1:], ((0,),) + first[1:], (10 ** 30,) + first[1:]):
                 self.is_right(False, call, *words, made(places + [bad]))
@@ -144,10 +151,12 @@ class CheckWordsTest(Case):
     def test_bent_laid(self):
         self.is_right(True, shows_laid, "ba", "abba", Laid([2, 3]))
         self.is_right(True, shows_laid, "ba", "abba", Laid((1, 3)))
-        for bad in ((True, 3), (1, 3.0), (1,), (1, 2, 3), (3, 1), (1, 1), "13", None, 1, (1, None), (1, "3"), (-3, -1), (1, 4),
+        for bad in ((True, 3), (1, 3.0), (1,), (1, 2, 3), (3, 1), (1, 1), "13", None, 1, (1, None), (1, "3"), (-3, -1),
+                    (1, 4),
                     ((1,), 3), {1: 3}, (1, 10 ** 30), ()):
             self.is_right(False, shows_laid, "ba", "abba", Laid(bad))
-        for bad in NO_PAPERS + (Paper("laid", (1, 3)), NotLaid(0), NotLaid(1), NotLaid(2), NotLaid(None), Pieces((), ())):
+        for bad in NO_PAPERS + (Paper("laid", (1, 3)), NotLaid(0), NotLaid(1), NotLaid(2), NotLaid(None),
+                                Pieces((), ())):
             self.is_right(False, shows_laid, "ba", "abba", bad)
         self.is_right(True, shows_laid, "aab", "ab", NotLaid(1))
         for bad in NO_PAPERS + (Denial("notlaid", 1), Unlaid([(0, 0)]), NotLaid(ANY), Laid(ANY), Laid([0, ANY, 1])):
@@ -161,7 +170,8 @@ class CheckWordsTest(Case):
     def test_words_of_any_length(self):
         long = "ab" * 50000
         self.assertTrue(self.shortly(shows_pieces, long, long, long, long, Pieces(["change"], [[long] * 4])))
-        self.assertFalse(self.shortly(shows_pieces, long, long, long, long, Pieces(["change"], [[long] * 3 + [long[1:]]])))
+        self.assertFalse(self.shortly(shows_pieces, long, long, long, long,
+                                      Pieces(["change"], [[long] * 3 + [long[1:]]])))
         self.assertTrue(self.shortly(shows_laid, long, long, Laid(list(range(len(long))))))
         self.assertTrue(self.shortly(shows_laid, "a" * 20, "b" * 20, NotLaid(0)))
         self.assertFalse(self.shortly(shows_no_word, long, long, long, NoWord([(0, 0, 0)])))

@@ -51,8 +51,10 @@ class FourthWordsTest(Case):
         self.assertTrue({0, 1, 2, 3} <= found)
 
     def test_words_of_more_letters(self):
-        for three in (("abc", "acb", "bac"), ("ab", "cab", "abd"), ("", "abc", "cab"), ("aab", "abab", "baab"), ("abc", "abcd", "abce"),
-                      ("ba", "abba", "bab"), ("abcd", "abcd", "dcba"), ("abcd", "dcba", "abcd"), ("sing", "sang", "ring")):
+        for three in (("abc", "acb", "bac"), ("ab", "cab", "abd"), ("", "abc", "cab"), ("aab", "abab", "baab"),
+                      ("abc", "abcd", "abce"),
+                      ("ba", "abba", "bab"), ("abcd", "abcd", "dcba"), ("abcd", "dcba", "abcd"),
+                      ("sing", "sang", "ring")):
             self.look_at(*three)
 
     def test_a_fourth_with_each_word(self):
@@ -80,7 +82,8 @@ class FourthWordsTest(Case):
         self.same(many_fourths("dc", "dbddfc", "eabdag"), 401)
         self.raised(TooMany("fourths", 400), fourths_of_words, "dc", "dbddfc", "eabdag")
         counts = {}
-        for b, c in itertools.product(("abcdef", "abcdea", "abcabc", "aabbcc"), ("ghijkl", "abcdef", "fedcba", "abcghi")):
+        for b, c in itertools.product(("abcdef", "abcdea", "abcabc", "aabbcc"),
+                                      ("ghijkl", "abcdef", "fedcba", "abcghi")):
             counts[many_fourths("", b, c)] = (b, c)
         for many, (b, c) in counts.items():
             if many > 400:
@@ -113,7 +116,8 @@ class FourthWordsTest(Case):
                 self.assertIsNone(found)
 
     def test_long_words_and_no_words(self):
-        for call, most, more in ((fourths_of_words, 6, ()), (no_word, 6, ()), (many_fourths, 6, ()), (fourth_at, 6, (0,)),
+        for call, most, more in ((fourths_of_words, 6, ()), (no_word, 6, ()), (many_fourths, 6, ()),
+                                 (fourth_at, 6, (0,)),
                                  (ends_alike, 12, ())):
             good = "abcdefabcdef"[:most]
             call(good, good, good, *more)
@@ -133,7 +137,8 @@ class FourthWordsTest(Case):
         self.raised(BadNumber("number"), fourth_at, "a", "b", "c", 0)
 
     def test_short_answers(self):
-        for three in (("", "abcdef", "ghijkl"), ("", "ababab", "bababa"), ("a", "aabbab", "ababba"), ("abc", "abcabc", "cababc"),
+        for three in (("", "abcdef", "ghijkl"), ("", "ababab", "bababa"), ("a", "aabbab", "ababba"),
+                      ("abc", "abcabc", "cababc"),
                       ("aaaaaa", "aaaaaa", "aaaaaa"), ("abcdef", "fedcba", "abcdef"), ("ab", "aabbcc", "ccbbaa")):
             self.shortly(many_fourths, *three)
             self.shortly(no_word, *three)

@@ -69,7 +69,8 @@ class LayingsTest(Case):
 
     def test_what_follows_from_a_proportion(self):
         words = words_up_to(2, "abc")
-        found = [four for four in itertools.product(words, repeat=4) if sum(map(len, four)) == 6 and is_like_words(*four)]
+        found = [four for four in itertools.product(words, repeat=4) if sum(map(len,
+                                                                                four)) == 6 and is_like_words(*four)]
         self.assertGreater(len(found), 100)
         for a, b, c, d in found:
             self.assertEqual(sorted(a + d), sorted(b + c))

@@ -67,7 +67,8 @@ class NumberRowsTest(Case):
 
     def test_every_short_row(self):
         for row in itertools.combinations(range(1, 15), 4):
-            steps = [power_of(*numbers) for numbers in ((row[0], row[1], row[1], row[2]), (row[1], row[2], row[2], row[3]))]
+            steps = [power_of(*numbers) for numbers in ((row[0], row[1], row[1], row[2]),
+                                                        (row[1], row[2], row[2], row[3]))]
             wanted = Uneven(0) if not steps[0] else steps[0] if steps[0] == steps[1] else Uneven(1)
             self.assertEqual(power_of_row(row), wanted)
 
@@ -79,7 +80,8 @@ class NumberRowsTest(Case):
         self.same(power_of_row([2, 3, 7] + row[4:]).step, 0)
 
     def test_wrong_rows(self):
-        for bad in NO_LISTS + ([], [1, 2], (1, 2), [1, 2, 2], [2, 2, 3], [3, 2, 1], [1, 2, 3, 3], [0, 1, 2], [1, 2, 100],
+        for bad in NO_LISTS + ([], [1, 2], (1, 2), [1, 2, 2], [2, 2, 3], [3, 2, 1], [1, 2, 3, 3], [0, 1, 2],
+                               [1, 2, 100],
                                [1, True, 3], [True, 2, 3], [1, 2, 3.0], [1, 2, None], ["1", "2", "3"], "123", "abc",
                                list(range(1, 14)), [1, 2, [3]], [-1, 1, 2], [1, 2, 10 ** 40], {1: 1, 2: 2, 3: 3}):
             self.raised(BadNumber("numbers"), power_of_row, bad)

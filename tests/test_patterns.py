@@ -46,7 +46,8 @@ class PatternsTest(Case):
         self.same(pattern.tree, ("f", ("g", 0)))
 
     def test_what_is_no_tree(self):
-        for tree in ODD_VALUES + (-1, "", "f", "a", "#0", [], (), [0], [[]], [0, 0], ["f", -1], ["f", True], ["f", False],
+        for tree in ODD_VALUES + (-1, "", "f", "a", "#0", [], (), [0], [[]], [0, 0], ["f", -1], ["f", True],
+                                  ["f", False],
                                   ["f", "a"], ["f", None], ["f", []], ["F"], [""], ["1a"], ["f", 0, 0, 0, 0], [["f"]],
                                   ["f", ["g", ["h", "a"]]], ["f", 1.0], ["f", Term("a")], Term("a"), Pattern(0), [None],
                                   ["f", ["g", 0, 0, 0, 0]], ["abcdefghijklm"], {"f": 0}, ["f"] * 100000, [1, "f"]):
@@ -94,12 +95,17 @@ class PatternsTest(Case):
 
     def test_bent_texts(self):
         for text, item in [
-                ("", 0), ("#", 0), ("#1", 0), ("#00", 0), ("#01", 0), ("#-1", 0), ("#a", 0), ("# 0", 0), ("#24", 0), ("#0 ", 1),
-                ("#0 #0", 1), ("#0 (", 1), ("#0 ( a )", 1), ("f ( #0 ( a ) )", 3), ("f ( #1 )", 3), ("f ( #1 , #0 )", None),
+                ("", 0), ("#", 0), ("#1", 0), ("#00", 0), ("#01", 0), ("#-1", 0), ("#a", 0), ("# 0", 0), ("#24", 0),
+                ("#0 ", 1),
+                ("#0 #0", 1), ("#0 (", 1), ("#0 ( a )", 1), ("f ( #0 ( a ) )", 3), ("f ( #1 )", 3),
+                ("f ( #1 , #0 )", None),
                 ("f ( #0 , #2 )", 5), ("f ( #0 , #2", 5), ("f ( #0 , #2 ,", 6), ("f ( #23 )", 3), ("f ( #24 )", 2),
-                ("f ( #100 )", 2), ("f ( #0 , #0 , #0 )", None), ("f ( #0 , #0 , #0 , #0 )", 7), ("f #0", 1), ("f ( #0", 3),
-                ("f ( 0 )", 2), ("f ( #0\n )", 2), ("f ( #0 )\n", 3), ("f ( ##0 )", 2), ("#0 )", 1), ("f ( #2 , g ( #1 ) )", 8),
-                ("f ( #" + "0" * 70 + " )", 2), ("#" + "1" * 61, 0), ("f ( #1 ) )", 4), ("f ( #1 ) a", 4), ("F ( #0 )", 0)]:
+                ("f ( #100 )", 2), ("f ( #0 , #0 , #0 )", None), ("f ( #0 , #0 , #0 , #0 )", 7), ("f #0", 1),
+                ("f ( #0", 3),
+                ("f ( 0 )", 2), ("f ( #0\n )", 2), ("f ( #0 )\n", 3), ("f ( ##0 )", 2), ("#0 )", 1),
+                ("f ( #2 , g ( #1 ) )", 8),
+                ("f ( #" + "0" * 70 + " )", 2), ("#" + "1" * 61, 0), ("f ( #1 ) )", 4), ("f ( #1 ) a", 4),
+                ("F ( #0 )", 0)]:
             if item is None:
                 self.assertEqual(str(Pattern.read(text)), text)
             else:
@@ -120,7 +126,8 @@ class PatternsTest(Case):
         self.assertEqual(pattern.filled((a, b)), pattern.filled([a, b]))
         self.assertEqual(Pattern(0).filled([b]), b)
         self.assertEqual(Pattern(["a"]).filled([]), a)
-        for filling in ODD_VALUES + (0, [], [a], [a, b, a], (a, None), [a, "b"], "ab", a, [[a], b], {0: a, 1: b}, [a, Pattern(["a"])]):
+        for filling in ODD_VALUES + (0, [], [a], [a, b, a], (a, None), [a, "b"], "ab", a, [[a], b], {0: a, 1: b},
+                                     [a, Pattern(["a"])]):
             self.raised(BadTerm("filling"), pattern.filled, filling)
         self.raised(BadTerm("filling"), Pattern(["a"]).filled, None)
         self.raised(BadTerm("filling"), Pattern(["a"]).filled, [a])
@@ -140,7 +147,8 @@ class PatternsTest(Case):
 
     def test_covers(self):
         terms = terms_up_to(4)
-        patterns = [Pattern(tree) for tree in (0, ["a"], ["f", 0], ["f", 0, 0], ["f", 1, 0], ["g", 0, ["a"]], ["f", ["g", 0]],
+        patterns = [Pattern(tree) for tree in (0, ["a"], ["f", 0], ["f", 0, 0], ["f", 1, 0], ["g", 0, ["a"]],
+                                               ["f", ["g", 0]],
                                                ["f", 0, ["f", 0]], ["f", 0, 1, 0])]
         for pattern in patterns:
             fillings = {}

@@ -165,7 +165,9 @@ class TermFourthsTest(Case):
         told = read("f ( g ( x ) , x , f ( g ( g ( x ) ) , x ) )"), nest, read("f ( b , c , f ( d , e ) )")
         self.same(many_term_fourths(*told), 402)
         self.raised(TooMany("fourths", 400), fourths_of_terms, *told)
-        row = Term("f", [leaf, leaf, Term("f", [leaf, leaf, Term("f", [leaf, leaf, Term("f", [leaf, leaf, Term("f", [leaf] * 3)])])])])
+        row = Term("f", [leaf, leaf, Term("f", [leaf, leaf, Term("f",
+                                                                 [leaf, leaf,
+                                                                  Term("f", [leaf, leaf, Term("f", [leaf] * 3)])])])])
         self.same(many_term_fourths(leaf, row, other), 2 ** 11 - 1)
         self.assertIsNone(no_term(leaf, row, other))
         same = read("f ( a , a , f ( a , a ) )")
@@ -205,7 +207,8 @@ class TermFourthsTest(Case):
         same = read("f ( a , a , f ( a , a ) )")
         four = read("f ( b , c , f ( d , e ) )")
         row = Term("f", [leaf, leaf, Term("f", [leaf, leaf, Term("f", [leaf, leaf])])])
-        for b in (row, Term("f", [leaf, leaf, Term("f", [leaf, leaf])]), Term("f", [leaf, leaf, Term("f", [leaf, Term("f", [leaf, leaf])])])):
+        for b in (row, Term("f", [leaf, leaf, Term("f", [leaf, leaf])]),
+                  Term("f", [leaf, leaf, Term("f", [leaf, Term("f", [leaf, leaf])])])):
             many = self.shortly(many_term_fourths, same, b, four)
             if many <= 400:
                 self.assertEqual(len(self.shortly(fourths_of_terms, same, b, four)), many)

@@ -73,7 +73,8 @@ class TermsTest(Case):
 
     def test_wrong_parts(self):
         a = Term("a")
-        for parts in NO_LISTS + ("", "a", a, [None], [a, "a"], [a, a, 1], [a] * 4, [[a]], {a.head: a}, [a] * 100000, ["a"],
+        for parts in NO_LISTS + ("", "a", a, [None], [a, "a"], [a, a, 1], [a] * 4, [[a]], {a.head: a}, [a] * 100000,
+                                 ["a"],
                                  [Pattern(["a"])], Pattern(["a"])):
             self.raised(BadTerm("parts"), Term, "f", parts)
         self.raised(BadTerm("parts"), Term, "f", [chain(24), chain(24), 0])
@@ -126,13 +127,18 @@ class TermsTest(Case):
 
     def test_bent_texts(self):
         for text, item in [
-                ("", 0), (" ", 0), ("A", 0), ("1", 0), ("(", 0), ("#0", 0), ("a ", 1), (" a", 0), ("a b", 1), ("a )", 1),
-                ("a ,", 1), ("a , b", 1), ("a (", 2), ("a ( ", 2), ("a ( )", 2), ("a ( ,", 2), ("a ( (", 2), ("a ( b", 3),
-                ("a ( b b", 3), ("a ( b )", None), ("a ( b ) )", 4), ("a ( b ) b", 4), ("a ( b ) ,", 4), ("a ( b ) (", 4),
+                ("", 0), (" ", 0), ("A", 0), ("1", 0), ("(", 0), ("#0", 0), ("a ", 1), (" a", 0), ("a b", 1),
+                ("a )", 1),
+                ("a ,", 1), ("a , b", 1), ("a (", 2), ("a ( ", 2), ("a ( )", 2), ("a ( ,", 2), ("a ( (", 2),
+                ("a ( b", 3),
+                ("a ( b b", 3), ("a ( b )", None), ("a ( b ) )", 4), ("a ( b ) b", 4), ("a ( b ) ,", 4),
+                ("a ( b ) (", 4),
                 ("a ( b ) ", 4), ("a ( b ,", 4), ("a ( b , )", 4), ("a ( b , c", 5), ("a ( b , c , d", 7),
                 ("a ( b , c , d ,", 7), ("a ( b , c , d , e )", 7), ("a ( b , c , d (", 8), ("a ( b , c , d b )", 7),
-                ("a ( b , c , d )", None), ("a ( b ( c )", 6), ("a ( b ( c ) , d )", None), ("a ( b  , c )", 3), ("a( b )", 0),
-                ("a (b )", 1), ("a ( b,c )", 2), ("a\n", 0), ("a ( b )\n", 3), ("a ( b\n )", 2), ("\ta", 0), ("a [ b ]", 1),
+                ("a ( b , c , d )", None), ("a ( b ( c )", 6), ("a ( b ( c ) , d )", None), ("a ( b  , c )", 3),
+                ("a( b )", 0),
+                ("a (b )", 1), ("a ( b,c )", 2), ("a\n", 0), ("a ( b )\n", 3), ("a ( b\n )", 2), ("\ta", 0),
+                ("a [ b ]", 1),
                 ("abcdefghijklm", 0), ("a ( abcdefghijklm )", 2), ("a ( #0 )", 2), ("a ( b ( c , d , e , f ) )", 9)]:
             if item is None:
                 self.assertEqual(str(Term.read(text)), text)
