@@ -47,13 +47,33 @@ def is_row(value):
     return is_list(value) and all([is_integer(one) for one in value])
 
 
+def are_names(value):
+    """Whether the value is a list of one name or more."""
+    return is_list(value) and len(value) > 0 and all([is_name(name) for name in value])
+
+
+def are_lists_of(value, many):
+    """Whether the value is a list of lists of so many values each."""
+    return is_list(value) and all([is_list(one) and len(one) == many for one in value])
+
+
+def are_ascending(value, most):
+    """Whether the value is a tuple of ascending integers from 0 to most, each once; None is no bound."""
+    if not isinstance(value, tuple) or not all([is_within(number, 0, most) for number in value]):
+        return False
+    return all([number < after for number, after in zip(value, value[1:])])
+
+
 def is_order_of(value, many):
     """Whether the value is a list of all integers below many, each once."""
     return is_row(value) and sorted(value) == list(range(many))
 
 
 def first_twice(values):
-    """The first of the integers or strings that equals one ahead of it, None if there is none."""
+    """The first of the values that equals one ahead of it, None if there is none.
+
+    They are integers, strings, or tuples of such.
+    """
     seen = set()
     for value in values:
         if value in seen:

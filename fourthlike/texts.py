@@ -1,6 +1,6 @@
 """The items of texts, read one by one; BadText tells the first that cannot stand."""
 
-from fourthlike.checks import is_figure, is_within
+from fourthlike.checks import is_figure, is_name, is_within
 from fourthlike.errors import BadText
 
 MOST_FIGURES = 60
@@ -32,6 +32,19 @@ def need_end(items, at):
         raise BadText(0, at)
 
 
+def behind_sign(items, at, sign, many):
+    """The index behind the sign that must stand there, if many stand ahead; the index itself if none does."""
+    if many == 0:
+        return at
+    need_sign(items, at, sign)
+    return at + 1
+
+
+def with_sign_between(lists, sign):
+    """The items of all these lists, one list behind the other, with the sign between two of them."""
+    return [item for one in lists for item in [sign, *one]][1:]
+
+
 def number_of(item):
     """The integer from 0 on that the item writes, None if it writes none."""
     if not 1 <= len(item) <= MOST_FIGURES or not all([is_figure(sign) for sign in item]):
@@ -47,3 +60,41 @@ def number_at(items, at, least, most):
     if not is_within(number, least, most):
         raise BadText(0, at)
     return number
+
+
+def names_ahead(items, most):
+    """The names with which the items begin, at most so many; one must stand."""
+    names = []
+    while len(names) < min(most, len(items)) and is_name(items[len(names)]):
+        names.append(items[len(names)])
+    if len(names) == 0:
+        raise BadText(0, 0)
+    return names
+
+
+def ascending_names(items, most):
+    """The names with which the items begin, each greater than the one ahead, at most so many; one must stand."""
+    names = names_ahead(items, most)
+    for at in range(1, len(names)):
+        if names[at] <= names[at - 1]:
+            raise BadText(0, at)
+    return names
+
+
+def one_of_at(items, at, names):
+    """The name that stands there, one of these."""
+    name = item_at(items, at)
+    if name not in names:
+        raise BadText(0, at)
+    return name
+
+
+def pair_at(items, at, names, ahead):
+    """The pair of these names that stands there, greater than the pair ahead, which is () if there is none."""
+    first = one_of_at(items, at, names)
+    if (first,) < ahead[:1]:
+        raise BadText(0, at)
+    second = one_of_at(items, at + 1, names)
+    if (first, second) <= ahead:
+        raise BadText(0, at + 1)
+    return first, second

@@ -1,8 +1,10 @@
 """What several tests use."""
 
+import re
 import time
 import unittest
 
+from fourthlike.errors import BadText
 from fourthlike.papers import Denial, Paper
 
 # Values that are no integer, no string, no list, and nothing of the package; True and False are no integers.
@@ -10,6 +12,54 @@ ODD_VALUES = (None, True, False, 1.0, b"a", {}, {1: 2}, object(), Paper("note"),
 # Values that stand for nothing that a list of values of the package has.
 NO_NUMBERS = ODD_VALUES + ("", "1", [], [1], (1,))
 NO_LISTS = ODD_VALUES + (0, 1, -1)
+
+
+NO_NAMES = ODD_VALUES + (0, 1, "", "1a", "A", "aB", "a b", "a\n", "a_", "abcdefghijklm", [], (), ["a"], ("a",))
+# Items that stand in no text of the package.
+NO_ITEMS = ("", "A", "-1", "+1", "01", "a\n", "\t", "abcdefghijklm", "1" * 61, "%", "a.b", "0.0")
+
+
+def plain(value):
+    """The value with each paper in it as its class and its parts."""
+    if isinstance(value, Paper):
+        return [type(value), plain(value.parts)]
+    if type(value) in (list, tuple):
+        return type(value)(plain(one) for one in value)
+    if type(value) is dict:
+        return {key: plain(value[key]) for key in value}
+    return value
+
+
+def looks_like_name(item):
+    """Whether the string is a name, by the words of the document."""
+    return re.fullmatch("[a-z][a-z0-9]{0,11}", item) is not None and not item.endswith("\n")
+
+
+def bent_texts(text, others):
+    """The text with each item exchanged for each of others, left out, doubled, with each put in, and cut off."""
+    items = text.split(" ")
+    found = [text, text + " ", " " + text, text + "\n", " ".join(items + items)]
+    for at in range(len(items) + 1):
+        found.append(" ".join(items[:at]))
+        for other in others:
+            found.append(" ".join(items[:at] + [other] + items[at:]))
+            found.append(" ".join(items[:at] + [other] + items[at + 1:]))
+            found.append(" ".join(items[:at] + [other]))
+    for at in range(len(items)):
+        found.append(" ".join(items[:at] + items[at + 1:]))
+        found.append(" ".join(items[:at + 1] + items[at:]))
+        found.append(" ".join(items[:at] + items[at + 1:at + 2] + [items[at]] + items[at + 2:]))
+    return found
+
+
+def first_wrong(items, can_stand, can_end, is_whole):
+    """The index that BadText tells for a text, None for a right one."""
+    for at, item in enumerate(items):
+        if not can_stand(items[:at], item):
+            return at
+    if not can_end(items):
+        return len(items)
+    return None if is_whole(items) else len(items) - 1
 
 
 class Case(unittest.TestCase):
@@ -28,7 +78,15 @@ class Case(unittest.TestCase):
     def same(self, found, wanted):
         """Fails unless both are equal, and True and False are no numbers."""
         self.assertEqual(found, wanted)
-        self.assertEqual(repr(found), repr(wanted))
+        self.assertEqual(repr(plain(found)), repr(plain(wanted)))
+
+    def reads(self, read, text, can_stand, can_end, is_whole):
+        """Fails unless read takes just the texts that are right, and tells the first wrong item of others."""
+        at = first_wrong(text.split(" "), can_stand, can_end, is_whole)
+        if at is None:
+            self.same(str(read(text)), text)
+        else:
+            self.raised(BadText(0, at), read, text)
 
     def is_right(self, wanted, call, *args):
         """Fails unless the call returns just True or just False, as wanted."""

@@ -21,6 +21,19 @@ KINDS = {
     "fourthwords": [("NoWord", "spots", True)],
     "patterns": [("Shared", "pattern mine its", False)],
     "termfourths": [("Bearing", "p q mine its", False), ("NoTerm", "hole", True)],
+    "latticelike": [("Apart", "sides", True)],
+    "distributive": [("Distributive", "sets", False), ("Five", "kind names", True)],
+    "setlike": [("FourthSet", "names", False), ("Outside", "name", True)],
+    "ways": [("Way", "moves", False), ("NoWay", "things", True), ("NoShared", "lots", True)],
+    "bests": [("Compared", "one other lots", False)],
+    "carryings": [("Carrying", "table", False)],
+    "rules": [("Adder", "places constant", False)],
+    "misled": [("Misled", "a b c d", True)],
+    "nearadders": [("Near", "many adders", False)],
+    "answers": [("Fits", "adder", False), ("Quarrel", "numbers", True), ("Forced", "outcome numbers", False),
+                ("Open", "one other", False)],
+    "likely": [("Likely", "rows", False), ("Clash", "row one other", True)],
+    "struck": [("Struck", "numbers adder", False)],
 }
 CLASSES = [(getattr(import_module("fourthlike." + file), name), fields.split(), denies)
            for file, kinds in KINDS.items() for name, fields, denies in kinds]
