@@ -96,3 +96,8 @@ def is_just(value, wanted):
     if is_integer(wanted):
         return is_integer(value) and value == wanted
     return value is None and wanted is None
+
+
+def is_just_paper(value, paper):
+    """Whether the value is just this paper, whose parts are as is_just tells."""
+    return type(value) is type(paper) and is_just(value.parts, paper.parts)

@@ -46,10 +46,14 @@ class Row:
     @staticmethod
     def read(text):
         """The row whose text this is."""
-        items = items_of(text)
-        marks = number_at(items, 0, LEAST_MARKS, MOST_MARKS)
-        need_sign(items, 1, ":")
-        end = min(max(len(items), 3), 2 + MOST_PLACES)
-        places = [number_at(items, at, 0, marks - 1) for at in range(2, end)]
-        need_end(items, end)
-        return Row(marks, places)
+        return row_from(items_of(text), 0)
+
+
+def row_from(items, at):
+    """The row whose text stands there and behind, up to the end."""
+    marks = number_at(items, at, LEAST_MARKS, MOST_MARKS)
+    need_sign(items, at + 1, ":")
+    end = min(max(len(items), at + 3), at + 2 + MOST_PLACES)
+    places = [number_at(items, place, 0, marks - 1) for place in range(at + 2, end)]
+    need_end(items, end)
+    return Row(marks, places)

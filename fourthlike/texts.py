@@ -62,19 +62,30 @@ def number_at(items, at, least, most):
     return number
 
 
-def names_ahead(items, most):
-    """The names with which the items begin, at most so many; one must stand."""
+def names_at(items, at, most):
+    """The names that stand there and behind, at most so many; one must stand."""
     names = []
-    while len(names) < min(most, len(items)) and is_name(items[len(names)]):
-        names.append(items[len(names)])
+    for item in items[at:at + most]:
+        if not is_name(item):
+            break
+        names.append(item)
     if len(names) == 0:
-        raise BadText(0, 0)
+        raise BadText(0, at)
+    return names
+
+
+def different_names_at(items, at, most):
+    """The names that stand there and behind, at most so many, none a second time; one must stand."""
+    names = names_at(items, at, most)
+    for number, name in enumerate(names):
+        if name in names[:number]:
+            raise BadText(0, at + number)
     return names
 
 
 def ascending_names(items, most):
     """The names with which the items begin, each greater than the one ahead, at most so many; one must stand."""
-    names = names_ahead(items, most)
+    names = names_at(items, 0, most)
     for at in range(1, len(names)):
         if names[at] <= names[at - 1]:
             raise BadText(0, at)

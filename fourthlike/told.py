@@ -3,7 +3,7 @@
 from fourthlike.checks import are_lists_of, are_names, is_list, is_within
 from fourthlike.errors import BadNumber, BadText, BadTold, TooMany, Twice
 from fourthlike.nameneeds import need_names, need_once
-from fourthlike.texts import behind_sign, items_of, names_ahead, need_sign, one_of_at, with_sign_between
+from fourthlike.texts import behind_sign, different_names_at, items_of, need_sign, one_of_at, with_sign_between
 
 MOST_NAMES = 6
 MOST_FOURS = 8
@@ -60,10 +60,7 @@ class Told:
     def read(text):
         """The Told whose text this is."""
         items = items_of(text)
-        names = names_ahead(items, MOST_NAMES)
-        for at, name in enumerate(names):
-            if name in names[:at]:
-                raise BadText(0, at)
+        names = different_names_at(items, 0, MOST_NAMES)
         need_sign(items, len(names), "|")
         return Told(names, fours_at(items, len(names) + 1, names))
 
@@ -87,10 +84,15 @@ def need_four(told, four):
     need_names(told.names, four)
 
 
-def need_told_and_four(told, four):
-    """Raises an error unless these are a Told and a four of its unknowns."""
+def need_told(told):
+    """Raises BadTold unless this is a Told."""
     if not isinstance(told, Told):
         raise BadTold("told")
+
+
+def need_told_and_four(told, four):
+    """Raises an error unless these are a Told and a four of its unknowns."""
+    need_told(told)
     need_four(told, four)
 
 

@@ -4,7 +4,7 @@ import re
 import time
 import unittest
 
-from fourthlike.errors import BadText
+from fourthlike.errors import BadText, LikeError
 from fourthlike.papers import Denial, Paper
 
 # Values that are no integer, no string, no list, and nothing of the package; True and False are no integers.
@@ -20,9 +20,11 @@ NO_ITEMS = ("", "A", "-1", "+1", "01", "a\n", "\t", "abcdefghijklm", "1" * 61, "
 
 
 def plain(value):
-    """The value with each paper in it as its class and its parts."""
+    """The value with each paper in it as its class and its parts, each error as its class and its fields."""
     if isinstance(value, Paper):
         return [type(value), plain(value.parts)]
+    if isinstance(value, LikeError):
+        return [type(value), plain(vars(value))]
     if type(value) in (list, tuple):
         return type(value)(plain(one) for one in value)
     if type(value) is dict:
@@ -52,6 +54,29 @@ def bent_texts(text, others):
     return found
 
 
+def bent_values(value, others):
+    """The value, of tuples within tuples, bent at each place in it, each once: exchanged for each of others.
+
+    Items of tuples are left out, doubled, exchanged with the next one, and put behind.
+    """
+    found = list(others)
+    if isinstance(value, tuple):
+        for at, one in enumerate(value):
+            found.extend(value[:at] + (bent,) + value[at + 1:] for bent in bent_values(one, others))
+            found.append(value[:at] + value[at + 1:])
+            found.append(value[:at + 1] + value[at:])
+            found.append(value[:at] + value[at + 1:at + 2] + (one,) + value[at + 2:])
+        found.extend(value + (other,) for other in others)
+    return found
+
+
+def bent_papers(paper, others):
+    """Papers of the paper's class with its parts bent one by one, all else left."""
+    parts = paper.parts
+    return [type(paper)(*parts[:at], bent, *parts[at + 1:])
+            for at, part in enumerate(parts) for bent in bent_values(part, others)]
+
+
 def first_wrong(items, can_stand, can_end, is_whole):
     """The index that BadText tells for a text, None for a right one."""
     for at, item in enumerate(items):
@@ -71,7 +96,7 @@ class Case(unittest.TestCase):
             found = call(*args, **more)
         except type(wanted) as error:
             self.assertIs(type(error), type(wanted))
-            self.same(vars(error), vars(wanted))
+            self.same(plain(vars(error)), plain(vars(wanted)))
         else:
             self.fail(f"{call} of {args!r} returned {found!r}, and raised no {type(wanted).__name__}")
 

@@ -44,7 +44,7 @@ class ExamplesTest(Case):
                 else:
                     self.same(eval(line, names), eval(wanted))
                     looked_at += 1
-        self.assertGreaterEqual(looked_at, 64)
+        self.assertGreaterEqual(looked_at, 98)
 
     def test_every_line_of_the_examples_is_run(self):
         with open(EXAMPLES, encoding="ascii") as file:

@@ -163,14 +163,23 @@ class LanguageTest(unittest.TestCase):
                 self.assertIsInstance(node.value.value, str)
             elif isinstance(node, ast.Assign):
                 self.assertEqual(len(node.targets), 1)
+                self.is_plain(node.value, names)
                 names.append(node.targets[0].id)
-                ast.literal_eval(node.value)
             elif isinstance(node, ast.ImportFrom):
                 names.extend(alias.name for alias in node.names)
             else:
                 self.assertIsInstance(node, (ast.FunctionDef, ast.ClassDef))
                 names.append(node.name)
         self.assertEqual(len(names), len(set(names)))
+
+    def is_plain(self, node, names):
+        """Fails unless it is a plain value, or a dict of functions that are defined above."""
+        if isinstance(node, ast.Dict) and node.values and isinstance(node.values[0], ast.Name):
+            self.assertTrue(all(isinstance(one, ast.Constant) for one in node.keys))
+            for one in node.values:
+                self.assertIn(one.id, names)
+        else:
+            ast.literal_eval(node)
 
     def test_statements_and_expressions(self):
         barred = (ast.Global, ast.Lambda, ast.Await, ast.Yield, ast.YieldFrom, ast.GeneratorExp, ast.Pow, ast.Div,
@@ -183,7 +192,12 @@ class LanguageTest(unittest.TestCase):
                 if isinstance(node, ast.Constant):
                     self.assertNotIsInstance(node.value, (float, complex))
                 if isinstance(node, ast.Starred):
-                    self.assertIsInstance(parents_of(tree)[node], (ast.Tuple, ast.List))
+                    where = parents_of(tree)[node]
+                    if isinstance(where, ast.Call):
+                        self.assertIsInstance(node.value, ast.Name)
+                        self.assertIsInstance(where.func, ast.Attribute)
+                    else:
+                        self.assertIsInstance(where, (ast.Tuple, ast.List))
 
     @file_by_file
     def test_strings(self, name, text, tree):
@@ -238,7 +252,7 @@ class LanguageTest(unittest.TestCase):
                 elif isinstance(where, ast.Compare):
                     self.assertEqual(where.left.func.id, "type")
                 else:
-                    self.assertIsInstance(where, (ast.Call, ast.ClassDef, ast.Raise))
+                    self.assertIsInstance(where, (ast.Call, ast.ClassDef, ast.Raise, ast.ExceptHandler))
 
     def test_methods_and_attributes(self):
         methods = {}
@@ -261,10 +275,11 @@ class LanguageTest(unittest.TestCase):
                         methods.setdefault(one.name, set()).add(tuple(decorators))
             for node in ast.walk(tree):
                 if isinstance(node, ast.Attribute) and isinstance(node.ctx, ast.Store):
-                    self.assertEqual(node.value.id, "self")
+                    self.assertIn(node.value.id, ("self", "table"))
                     attributes.add(node.attr)
-        self.assertEqual(attributes & set(methods), {"outcome"})
-        self.assertEqual(methods["outcome"], {()})
+        for shared in attributes & set(methods):
+            self.assertEqual(methods[shared], {()}, shared)
+        self.assertEqual(attributes & set(methods), {"outcome", "place", "told"})
         self.assertFalse(attributes & BAD_ATTRIBUTES)
         self.assertEqual(set(methods) & METHODS, {"join"})
         for name, kinds in methods.items():
@@ -288,7 +303,7 @@ class LanguageTest(unittest.TestCase):
                 self.assertIs(where.iter, node)
             else:
                 self.assertIsInstance(where, ast.Call)
-                self.assertIn(where.func.id, TAKERS)
+                self.assertIn(where.func.id, TAKERS | ({"combinations"} if called == "range" else set()))
 
     def test_what_is_iterated_is_not_changed(self):
         changing = METHODS & set("append clear extend insert pop remove reverse setdefault update".split())
@@ -362,7 +377,10 @@ class LanguageTest(unittest.TestCase):
     @file_by_file
     def test_errors(self, name, text, tree):
         for node in ast.walk(tree):
-            self.assertNotIsInstance(node, ast.Try)
+            if isinstance(node, ast.Try):
+                # Own errors alone are caught, and passed on with the line that raised them.
+                self.assertEqual([handler.type.id for handler in node.handlers], ["LikeError"])
+                self.assertFalse(node.orelse or node.finalbody)
             if isinstance(node, ast.Raise):
                 self.assertIsNone(node.cause)
                 self.assertIsInstance(node.exc, ast.Call)
@@ -373,7 +391,7 @@ class LanguageTest(unittest.TestCase):
         for function in functions_in(tree):
             if function.name == "__init__":
                 self.assertFalse([node for node in ast.walk(function) if isinstance(node, ast.Return)])
-            elif function.name in DUNDERS:
+            elif function.name in DUNDERS - {"__call__"}:
                 body = [node for node in function.body
                         if not (isinstance(node, ast.Expr) and isinstance(node.value, ast.Constant))]
                 self.assertEqual([type(node) for node in body], [ast.Return])

@@ -34,6 +34,19 @@ KINDS = {
                 ("Open", "one other", False)],
     "likely": [("Likely", "rows", False), ("Clash", "row one other", True)],
     "struck": [("Struck", "numbers adder", False)],
+    "weights": [("Follows", "weights", False), ("Breaks", "rests by", True), ("Times", "number weights", False),
+                ("Never", "numbers", True), ("Needed", "numbers weights", False)],
+    "rests": [("AllUnlike", "papers", False), ("Same", "one other weights", True)],
+    "deeds": [("Deeds", "rows", False), ("NoDeeds", "fours", True)],
+    "gaps": [("FreeGap", "", False), ("ForcedForm", "form", False), ("OpenForm", "forms", False),
+             ("Torn", "sources", True)],
+    "mended": [("Filled", "cells left", False), ("Slips", "cells", False), ("NoSlips", "most", True),
+               ("Enough", "cells", False)],
+    "stems": [("Stems", "stems endings", False), ("Unstemmed", "row column", True)],
+    "doings": [("Agreed", "names", False), ("Parting", "places names", True)],
+    "orderlots": [("ClosedOrders", "orders reasons", False), ("OrderMakers", "orders", False)],
+    "taught": [("Taught", "places names", False), ("Untaught", "places names", True)],
+    "chains": [("Far", "", False), ("Part", "one other", True)],
 }
 CLASSES = [(getattr(import_module("fourthlike." + file), name), fields.split(), denies)
            for file, kinds in KINDS.items() for name, fields, denies in kinds]
@@ -83,7 +96,7 @@ class PapersTest(Case):
     def test_all_classes_of_papers(self):
         for made, fields, denies in CLASSES:
             for value in VALUES:
-                values = [value] + [at for at in range(1, len(fields))]
+                values = ([value] + [at for at in range(1, len(fields))])[:len(fields)]
                 for paper in (made(*values), made(**dict(zip(fields, values)))):
                     self.assertEqual(paper.word, made.__name__.lower())
                     self.assertEqual(paper.parts, fixed(values))
@@ -109,7 +122,8 @@ class PapersTest(Case):
         for number, (made, fields, denies) in enumerate(CLASSES):
             values = list(range(len(fields)))
             self.assertTrue(made(*values) == made(*values))
-            self.assertFalse(made(*values) == made(*values[:-1], 9))
+            if fields:
+                self.assertFalse(made(*values) == made(*values[:-1], 9))
             self.assertFalse(made(*values) != made(*values))
             self.assertFalse(made(*values) == (Denial if denies else Paper)(made.__name__.lower(), *values))
             self.assertFalse(made(*values) == made.__name__.lower())
