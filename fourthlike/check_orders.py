@@ -5,7 +5,7 @@ from fourthlike.doings import agreed
 from fourthlike.nameneeds import is_one_of
 from fourthlike.orderlots import MOST_MAKERS, ClosedOrders, OrderMakers, ascending_lot, distinct_names, fourth_around
 from fourthlike.orderlots import lot_around, makers_with_first, need_lot_of_orders
-from fourthlike.taught import Taught, Untaught, names_of, need_pairs_of_orders, paper_of_pairs, places_of
+from fourthlike.taught import Untaught, names_of, need_pairs_of_orders, paper_of_pairs, places_of
 
 
 def shows_agreed(a, b, c, value):
@@ -91,4 +91,4 @@ def shows_taught(pairs, value):
     need_pairs_of_orders(pairs)
     if type(value) is Untaught:
         return is_untaught(pairs, value.places, value.names)
-    return type(value) is Taught and is_just_paper(value, paper_of_pairs(pairs))
+    return is_just_paper(value, paper_of_pairs(pairs))

@@ -11,7 +11,7 @@ from fourthlike.weights import Breaks, Follows, Needed, Never, Times, diagonal_o
 
 def makes_with(told, numbers, weights, row):
     """Whether the value has whole weights of the told fours with these numbers that make the row."""
-    if not isinstance(weights, tuple) or not is_row(weights) or len(weights) != len(numbers):
+    if not is_row(weights) or len(weights) != len(numbers):
         return False
     rows = [row_of(told, told.fours[number]) for number in numbers]
     return all([sum_with(weights, [one[at] for one in rows]) == wanted for at, wanted in enumerate(row)])
@@ -26,7 +26,7 @@ def is_breaks(told, four, value):
     """Whether the value is a Breaks of the four."""
     if type(value) is not Breaks or not is_within(value.by, LEAST_BY, None):
         return False
-    if not isinstance(value.rests, tuple) or not are_rests(value.rests, len(told.names), value.by):
+    if not are_rests(value.rests, len(told.names), value.by):
         return False
     return all_hold(told, value.rests, value.by) and sum_with(row_of(told, four), value.rests) % value.by != 0
 
@@ -41,7 +41,7 @@ def shows_follows(told, four, value):
 
 def is_never(told, four, numbers):
     """Whether the value has whole numbers with which all told fours hold, and not the asked one."""
-    if not isinstance(numbers, tuple) or not is_row(numbers) or len(numbers) != len(told.names):
+    if not is_row(numbers) or len(numbers) != len(told.names):
         return False
     if any([sum_with(row_of(told, one), numbers) != 0 for one in told.fours]):
         return False

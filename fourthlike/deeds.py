@@ -59,7 +59,6 @@ class FoursByDeeds:
         self.reasons = []
         self._numbers = {}
         self._begun = {}
-        self._ended = {}
         for four, deed in first_fours(told):
             self.put_in(four, deed)
         at = 0
@@ -73,19 +72,19 @@ class FoursByDeeds:
             number = len(self.fours)
             self._numbers[four] = number
             self._begun.setdefault(four[:2], []).append(number)
-            self._ended.setdefault(four[2:], []).append(number)
             self.fours.append(four)
             self.reasons.append(deed)
 
     def go_on_from(self, at):
-        """Puts in what the deeds make of the four with this number, chained also with each that is there."""
+        """Puts in what the deeds make of the four with this number, chained to each that is there.
+
+        What comes of another one chained to it comes of both turned about, and then turned about again.
+        """
         four = self.fours[at]
         self.put_in(turned_about(four), ("turned", at))
         self.put_in(middles_exchanged(four), ("middles", at))
         for number in list(self._begun.get(four[2:], [])):
             self.put_in(chained(four, self.fours[number]), ("chained", at, number))
-        for number in list(self._ended.get(four[:2], [])):
-            self.put_in(chained(self.fours[number], four), ("chained", number, at))
 
     def number_of(self, four):
         """The number of the four, None if it does not come."""

@@ -12,7 +12,6 @@ from fourthlike.fourthwords import fourths_of_words
 from fourthlike.layings import is_like_words
 from fourthlike.likely import Clash, likely
 from fourthlike.likenesses import fourth_of, is_proportion
-from fourthlike.nameneeds import need_names
 from fourthlike.orders import Order
 from fourthlike.rows import Row
 from fourthlike.tables import names_told, need_table
@@ -41,7 +40,6 @@ def kind_of(thing):
 
 def things_under(table, names):
     """The list of the things under these names, which are of one kind."""
-    need_names(table.names, names)
     things = [table.thing(name) for name in names]
     if any([kind_of(thing) != kind_of(things[0]) for thing in things]):
         raise Misfit("kinds")

@@ -30,10 +30,9 @@ def put_behind(cell, stems, endings):
     """Puts in what the stem or the ending of the cell makes the other one; whether they make the word."""
     row, column, word = cell
     if row in stems:
-        begin = word[:len(stems[row])]
-        return begin == stems[row] and put_or_same(endings, column, word[len(begin):])
+        return word.startswith(stems[row]) and put_or_same(endings, column, word[len(stems[row]):])
     cut = len(word) - len(endings[column])
-    return cut >= 0 and word[cut:] == endings[column] and put_or_same(stems, row, word[:cut])
+    return word.endswith(endings[column]) and put_or_same(stems, row, word[:cut])
 
 
 def settled_by(cells, row, stem):

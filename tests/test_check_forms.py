@@ -7,7 +7,7 @@ from fourthlike.check_forms import shows_enough, shows_filled, shows_gap, shows_
 from fourthlike.errors import BadForms, BadNumber, NoName
 from fourthlike.forms import Forms
 from fourthlike.gaps import ForcedForm, FreeGap, OpenForm, Torn, gap_of
-from fourthlike.mended import Enough, Filled, NoSlips, Slips, fewest_cells, filled, slips
+from fourthlike.mended import Enough, Filled, NoSlips, Slips, fewest_cells, filled, filled_forms, slips
 from fourthlike.papers import Denial, Paper
 from fourthlike.stems import Stems, Unstemmed, stems_of
 from tests.helpers import NO_NAMES, NO_NUMBERS, ODD_VALUES, Case, bent_papers, plain
@@ -143,6 +143,12 @@ class CheckSlipsTest(Case):
                 self.is_right(False, shows_slips, forms, 0, Slips(()))
                 self.is_right(False, shows_slips, forms.with_word("x", "p", "zzz"), 0, NoSlips(0))
                 self.is_right(False, shows_enough, forms, Enough(pairs_in(forms)))
+                cells = {(row, column): "a" * (one + other) for one, row in enumerate(forms.rows)
+                         for other, column in enumerate(forms.columns)}
+                alike = Forms(forms.rows, forms.columns, cells)
+                cross = [pair for pair in pairs_in(alike) if "x" == pair[0] or "p" == pair[1]]
+                self.assertEqual(filled_forms(alike.without([pair for pair in cells if pair not in cross])), alike)
+                self.is_right(False, shows_enough, alike, Enough(cross))
 
     def test_bounds_come_shortly(self):
         for forms in some_forms(4, [(3, 3)], 0.0, 53, "abc", 6) + made_forms(4, [(3, 3)], 0.0, 0.3, 54, "abcd", 3):

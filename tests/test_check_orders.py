@@ -118,6 +118,13 @@ class CheckClosedTest(Case):
                 right += is_right_closed(lot, paper)
         self.assertGreater(right, 10)
 
+    def test_orders_that_stand_twice(self):
+        lot = [ABC, BCA]
+        right = ClosedOrders([*names_of(lot), ("c", "a", "b")], [None, None, (1, 1)])
+        self.is_right(True, shows_closed_orders, lot, right)
+        for names, reason in ((BCA.names, (0, 1)), (BCA.names, (1, 0)), (ABC.names, (0, 0))):
+            self.is_right(False, shows_closed_orders, lot, ClosedOrders([*names_of(lot), names], [None, None, reason]))
+
     def test_lots_of_four_and_five(self):
         for lot in some_lots(30, 4, (1, 3), 4) + some_lots(30, 5, (1, 3), 5):
             found = self.shortly(closed_orders, lot)
@@ -158,6 +165,11 @@ class CheckMakersTest(Case):
                 some = tuple(sorted(set(chance.choices(whole, k=chance.randint(1, 4)))))
                 wanted = len(some) == fewest and slow_size(some) == len(whole)
                 self.is_right(wanted, self.shortly, shows_order_makers, lot, OrderMakers(some))
+
+    def test_many_orders(self):
+        orders = all_orders(5)
+        for many in (0, 4, 5, 6, 120):
+            self.is_right(False, self.shortly, shows_order_makers, orders, OrderMakers(names_of(orders)[:many]))
 
     def test_orders_of_other_lots(self):
         four = [Order(list(names)) for names in ("abcd", "bcda", "cdab", "dabc")]
@@ -203,6 +215,14 @@ class CheckTaughtTest(Case):
                     self.is_right(wanted, shows_taught, [list(pair) for pair in pairs], paper)
                     right += wanted
         self.assertGreater(right, 50)
+
+    def test_numbers_places_and_names_that_are_none(self):
+        pairs = [(ABC, BCA), (ACB, ACB)]
+        self.is_right(True, shows_taught, pairs, Untaught((1, 2), (1, "c")))
+        for places, names in (((1, 3), (1, "c")), ((1, 4), (1, "c")), ((1, -1), (1, "c")), ((2, 2), (1, "c")),
+                              ((1, 2), (2, "c")), ((1, 2), (1, "d")), ((-1, 2), (1, "c")), ((1, 2), (-1, "c")),
+                              ((0, 2), (1, "c")), ((1, 2), (0, "c")), ((1, "c"), (1, 2)), ((1, 2, 2), (1, "c"))):
+            self.is_right(False, shows_taught, pairs, Untaught(places, names))
 
     def test_taught_with_too_much_or_too_little(self):
         one = [(ABC, BCA)]

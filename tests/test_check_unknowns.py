@@ -134,6 +134,7 @@ class CheckUnknownsTest(Case):
         free = Told(["x", "y"], [])
         self.is_right(False, shows_times, free, ("x", "y", "y", "y"), Times(1, ()))
         self.is_right(True, shows_times, free, ("x", "y", "y", "y"), Never((10 ** 50, -3)))
+        self.is_right(False, shows_times, free, ("x", "y", "y", "y"), Times(None, ()))
 
     def test_all_lots_of_told_fours(self):
         told = Told(["a", "b", "c", "d"], [("a", "b", "b", "c"), ("b", "c", "c", "d"), ("a", "b", "c", "d"),
@@ -219,6 +220,18 @@ class CheckPartedTest(Case):
             self.is_right(wanted, shows_parted, told, tuple(map(tuple, pairs)), paper)
 
 
+def turned(fours):
+    return {(c, d, a, b) for a, b, c, d in fours}
+
+
+def middles(fours):
+    return {(a, c, b, d) for a, b, c, d in fours}
+
+
+def chained(fours):
+    return {one[:2] + other[2:] for one in fours for other in fours if one[2:] == other[:2]}
+
+
 class CheckDeedsTest(Case):
     def test_bent_deeds(self):
         for told in some_tolds(10, (2, 3), (1, 3), 10) + [SUMS]:
@@ -249,6 +262,20 @@ class CheckDeedsTest(Case):
         self.is_right(False, shows_deeds, told, asked, NoDeeds(sorted(slow_closing(told), reverse=True)))
         self.is_right(False, shows_deeds, told, asked, NoDeeds(sorted(slow_closing(told) | {("a", "a", "a", "b")})))
         self.is_right(False, shows_deeds, told, asked, Deeds([]))
+
+    def test_lots_closed_by_two_of_the_deeds(self):
+        found = 0
+        for told in some_tolds(15, (3, 3), (1, 3), 12):
+            for left in (turned, middles, chained):
+                deeds = [deed for deed in (turned, middles, chained) if deed != left]
+                lot = set(told.fours) | slow_same(told)
+                while not set().union(*[deed(lot) for deed in deeds]) <= lot:
+                    lot = lot.union(*[deed(lot) for deed in deeds])
+                asked = [four for four in itertools.product(told.names, repeat=4) if four not in lot]
+                for four in asked[::9]:
+                    self.is_right(left(lot) <= lot, shows_deeds, told, four, NoDeeds(sorted(lot)))
+                    found += not left(lot) <= lot
+        self.assertGreater(found, 50)
 
     def test_each_deed(self):
         told = Told(["a", "b", "c"], [("a", "b", "b", "c"), ("b", "c", "c", "a")])

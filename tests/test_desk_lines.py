@@ -115,7 +115,8 @@ class DeskLinesTest(Case):
         for line, item in [
                 ("", 0), (" ", 0), ("names ", 1), (" names", 0), ("Names", 0), ("put", 1), ("put a", 2),
                 ("put a row", 3), ("put a row ", 3), ("put a row 2", 4), ("put a row 2 :", 5),
-                ("put a row 2 : 0 2 1", 6), ("put a row 2 : 0 0 0 0 0 0 0", 11), ("put a word", 3), ("put a word ab c", 4),
+                ("put a row 2 : 0 2 1", 6), ("put a row 2 : 0 0 0 0 0 0 0", 11), ("put a word", 3),
+                ("put a word ab c", 4),
                 ("put a word aB", 3),
                 ("put a word  ", 4), ("put a order", 3), ("put a order ", 3), ("put a order a a", 4),
                 ("put a order a b c d e f", 8), ("put 1 word a", 1), ("put a name a", 2), ("strike", 1), ("strike ", 1),

@@ -158,6 +158,9 @@ class GapsTest(Case):
         self.raised(TooMany("words", 400), gap_of, Forms(["x", "y"], ["p", "q"], both), "y", "q")
         both["y", "p"] = "ghijk"
         self.assertEqual(len(gap_of(Forms(["x", "y"], ["p", "q"], both), "y", "q").forms), 252)
+        # These have just 400 fourths, and just 401.
+        self.assertEqual(len(gap_of(Forms.read("x y / p q : cf facaee dfecfd -"), "y", "q").forms), 400)
+        self.raised(TooMany("words", 400), gap_of, Forms.read("x y / p q : dc dbddfc eabdag -"), "y", "q")
 
     def test_many_words_of_which_few_are_shared(self):
         cells = {("x", "p"): "", ("x", "q"): "abcdef", ("y", "p"): "ghijkl", ("x", "r"): "", ("y", "r"): "ghijkl"}

@@ -51,6 +51,12 @@ class TableTest(Case):
         self.same(table.cases[0], ((0, 1), 1))
         self.assertIs(table.thing("b"), ROW)
 
+    def test_one_four_and_one_case(self):
+        table = Table((), [("x", "y", "y", "z")], [([0, 1], 1)])
+        self.same((str(table.told), str(table.book)), ("x y z | x y y z", "2 : 0 1 = 1"))
+        self.assertIsNone(Table((), [("x", "y", "y", "z")]).book)
+        self.assertIsNone(Table((), (), [([0, 1], 1)]).told)
+
     def test_things_that_are_none(self):
         for things in NO_LISTS + ("", "ab", {"a": "b"}, [("a",)], [("a", "b", "c")], ["ab"], [None], [("a", "b"), 1],
                                   ("a", "b")):
@@ -85,6 +91,8 @@ class TableTest(Case):
             self.raised(BadDesk("cases"), Table, (), (), [([0], 1), ([1, 0], bit)])
             self.raised(BadDesk("cases"), Table, (), (), [(bit, 1) if bit != [0] and bit != (0,) else (0, 1)])
         self.raised(BadNumber("places"), Table, (), (), [([0] * 7, 1)])
+        self.raised(BadNumber("places"), Table, (), (), [([0] * 7, 1), ([0], 1)])
+        self.raised(BadBook("cases"), Table, (), (), [([0], 1), ([0] * 7, 1)])
         self.raised(BadBook("cases"), Table, (), (), [([0], 1), ([0, 1], 1)])
         self.raised(Twice((0,)), Table, (), (), [([0], 1), ([1], 1), ([0], 0)])
         rows = list(itertools.product((0, 1), repeat=5))

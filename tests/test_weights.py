@@ -141,7 +141,10 @@ class WeightsTest(Case):
 
     def test_big_tolds(self):
         seen = set()
-        for told in some_tolds(40, (5, 6), (3, 6), 2):
+        # In the last two something is left beside a corner below which nothing is left.
+        texts = ("a b c d e f | b e f d , c f b c , d c b e",
+                 "a b c d e f | e b d c , d b a f , b a a d , e f e f , e f f a")
+        for told in some_tolds(40, (5, 6), (3, 6), 2) + [Told.read(text) for text in texts]:
             for four in asked_of(told, 3):
                 seen.add(self.looks_right(told, four))
         self.assertTrue({1, 2, 3, None} <= seen)
