@@ -124,6 +124,10 @@ class CheckClosedTest(Case):
         self.is_right(True, shows_closed_orders, lot, right)
         for names, reason in ((BCA.names, (0, 1)), (BCA.names, (1, 0)), (ABC.names, (0, 0))):
             self.is_right(False, shows_closed_orders, lot, ClosedOrders([*names_of(lot), names], [None, None, reason]))
+        # An order is no reason of itself, told by whatever number.
+        for reason in ((2, 0), (0, 2), (-1, 0), (0, -1), (1, -2), (True, 1), (1, 1, 1), (1,)):
+            paper = ClosedOrders(right.orders, [None, None, reason])
+            self.is_right(False, shows_closed_orders, lot, paper)
 
     def test_lots_of_four_and_five(self):
         for lot in some_lots(30, 4, (1, 3), 4) + some_lots(30, 5, (1, 3), 5):
